@@ -1,0 +1,1 @@
+"""Signmill: words ground by rules, and the rules made complete."""
