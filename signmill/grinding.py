@@ -1,6 +1,7 @@
 """Words ground by rules: where rules stand, what a step makes of a word, its least form."""
 
 from signmill.errors import NoStep
+from signmill.words import changed, stands
 
 
 def numbers_at(rules, word, place):
@@ -17,11 +18,10 @@ def steps_of(rules, word):
 def step(rules, word, place, number):
     left = rules[number][0]
     right = rules[number][1]
-    # A place less than nought would be counted from the word's end by Python.
-    if place < 0 or place >= len(word) or not word.startswith(left, place):
+    if not stands(left, word, place):
         # The place is not told: Python refuses to write out a very great number.
         raise NoStep("the rule does not stand at this place of the word")
-    return word[:place] + right + word[place + len(left):]
+    return changed(word, place, left, right)
 
 
 def first_step(rules, word, start):

@@ -1,10 +1,10 @@
 import copy
-import itertools
 import unittest
 
 from signmill.errors import MillError, NoStep
 from signmill.grinding import ground, step, steps_of
 from signmill.words import before
+from tests.plain import GREAT, plain_ground, plain_step, plain_steps, short_words
 
 RULE_LISTS = [
     [],
@@ -16,35 +16,6 @@ RULE_LISTS = [
     [("bba", "abb"), ("baa", "aba"), ("aaaa", "b")],
     [("abab", "b"), ("bb", "aa"), ("baab", "abba")],
 ]
-
-
-def short_words(signs, most):
-    words = []
-    for length in range(most + 1):
-        words += ["".join(some) for some in itertools.product(signs, repeat=length)]
-    return words
-
-
-def plain_steps(rules, word):
-    found = []
-    for number, (left, right) in enumerate(rules):
-        for place in range(len(word)):
-            if word[place:place + len(left)] == left:
-                found.append((place, number))
-    return sorted(found)
-
-
-def plain_step(rules, word, place, number):
-    left, right = rules[number]
-    return word[:place] + right + word[place + len(left):]
-
-
-def plain_ground(rules, word):
-    done = []
-    while plain_steps(rules, word):
-        done.append(min(plain_steps(rules, word)))
-        word = plain_step(rules, word, *done[-1])
-    return (word, done)
 
 
 class StepsOf(unittest.TestCase):
@@ -160,7 +131,7 @@ class Step(unittest.TestCase):
             self.refused([("a", "")], "", place, 0)
 
     def test_very_great_places(self):
-        for size in (2 ** 31, 2 ** 32, 2 ** 63 - 1, 2 ** 63, 2 ** 64, 10 ** 30, 10 ** 5000):
+        for size in GREAT:
             for place in (size, -size, size + 1, 1 - size):
                 self.refused([("a", "")], "aaa", place, 0)
 

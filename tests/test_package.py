@@ -4,7 +4,7 @@ import pathlib
 import re
 import unittest
 
-from signmill import errors, grinding, words
+from signmill import chains, errors, grinding, overlaps, words
 
 FOLDER = pathlib.Path(errors.__file__).parent
 
@@ -13,6 +13,9 @@ ARGUMENTS = [
     (grinding.steps_of, ["rules", "word"]),
     (grinding.step, ["rules", "word", "place", "number"]),
     (grinding.ground, ["rules", "word"]),
+    (chains.walked, ["pairs", "word", "chain"]),
+    (chains.turned, ["chain"]),
+    (overlaps.overlaps, ["rules"]),
 ]
 
 # What the package may call of Python's own; so it reaches no clock, chance or file.

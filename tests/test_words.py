@@ -1,7 +1,7 @@
 import itertools
 import unittest
 
-from signmill.words import before
+from signmill.words import before, changed, stands
 
 
 class Before(unittest.TestCase):
@@ -42,6 +42,31 @@ class Before(unittest.TestCase):
         for i, one in enumerate(words):
             for k, other in enumerate(words):
                 self.told(one, other, i < k)
+
+
+class Stands(unittest.TestCase):
+    def told(self, part, word, places):
+        found = [place for place in range(-6, 7) if stands(part, word, place)]
+        self.assertEqual(found, places, (part, word))
+
+    def test_places(self):
+        self.told("a", "aba", [0, 2])
+        self.told("aba", "ababa", [0, 2])
+        self.told("ab", "ba", [])
+        self.told("abc", "ab", [])
+
+    def test_empty_word_stands_up_to_the_length(self):
+        self.told("", "abc", [0, 1, 2, 3])
+        self.told("", "", [0])
+
+
+class Changed(unittest.TestCase):
+    def test_only_what_stands_at_the_place_is_changed(self):
+        self.assertEqual(changed("abab", 0, "ab", "c"), "cab")
+        self.assertEqual(changed("abab", 2, "ab", "c"), "abc")
+        self.assertEqual(changed("abab", 1, "", "c"), "acbab")
+        self.assertEqual(changed("abab", 4, "", "c"), "ababc")
+        self.assertEqual(changed("abab", 1, "ba", ""), "ab")
 
 
 if __name__ == "__main__":
