@@ -1,4 +1,4 @@
-"""Chains of pairs: the word that one leads to, the one that leads back, the same one further on."""
+"""Chains of pairs: the word that one leads to, the one that leads back, one moved, one shortened."""
 
 from signmill.errors import NoChain
 from signmill.words import changed, stands
@@ -32,3 +32,24 @@ def turned(chain):
 
 def moved(chain, places):
     return [(link[0], link[1] + places, link[2]) for link in chain]
+
+
+def words_along(pairs, word, chain):
+    words = [word]
+    for link in chain:
+        words.append(linked(pairs, words[-1], link))
+    return words
+
+
+def shortened(pairs, word, chain):
+    words = words_along(pairs, word, chain)
+    last = {}
+    for number, reached in enumerate(words):
+        last[reached] = number
+    kept = []
+    # What lies between a word and the same word further on leads nowhere, and is left out.
+    at = last[word]
+    while at < len(chain):
+        kept.append(chain[at])
+        at = last[words[at + 1]]
+    return kept

@@ -1,7 +1,7 @@
 import copy
 import unittest
 
-from signmill.chains import moved, turned, walked
+from signmill.chains import moved, shortened, turned, walked
 from signmill.errors import MillError, NoChain
 from tests.plain import GREAT, plain_links, short_words
 
@@ -220,6 +220,32 @@ class Moved(unittest.TestCase):
         self.assertEqual(moved([(1, 2, True), (0, 0, False)], 3), [(1, 5, True), (0, 3, False)])
 
 
+class Shortened(unittest.TestCase):
+    def test_empty_chain(self):
+        self.assertEqual(shortened(PAIRS, "ab", []), [])
+
+    def test_chain_without_a_word_twice(self):
+        chain = [(0, 0, True), (1, 1, True), (2, 0, True)]
+        self.assertEqual(shortened(PAIRS, "ab", chain), chain)
+
+    def test_there_and_back_is_left_out(self):
+        chain = [(0, 0, True), (1, 1, True)]
+        self.assertEqual(shortened(PAIRS, "ab", chain + turned(chain)), [])
+        self.assertEqual(shortened(PAIRS, "ab", chain + [(1, 1, False), (2, 0, True)]), [(0, 0, True), (2, 0, True)])
+
+    def test_links_that_change_nothing_are_left_out(self):
+        chain = [(3, 0, True), (5, 1, False), (0, 0, True), (5, 0, True)]
+        self.assertEqual(shortened(PAIRS, "ab", chain), [(0, 0, True)])
+
+    def test_leads_to_the_same_word_and_to_none_twice(self):
+        for word in short_words("abc", 2):
+            for chain, reached in some_chains(PAIRS, word, 6):
+                short = shortened(PAIRS, word, chain)
+                passed = [walked(PAIRS, word, short[:count]) for count in range(len(short) + 1)]
+                self.assertEqual(passed[-1], reached)
+                self.assertEqual(len(set(passed)), len(passed))
+
+
 class HandedIn(unittest.TestCase):
     def test_pairs_and_chain_are_the_same_afterwards(self):
         for word in ("", "ab", "cab"):
@@ -229,6 +255,7 @@ class HandedIn(unittest.TestCase):
                 walked(pairs, word, chain)
                 turned(chain)
                 moved(chain, 1)
+                shortened(pairs, word, chain)
                 with self.assertRaises(NoChain):
                     walked(pairs, word, chain + [(-1, 0, True)])
                 self.assertEqual(pairs, PAIRS)
@@ -238,6 +265,7 @@ class HandedIn(unittest.TestCase):
         chain = [(0, 1, True)]
         turned(chain).clear()
         moved(chain, 0).clear()
+        shortened([("a", "b")], "aa", chain).clear()
         self.assertEqual(chain, [(0, 1, True)])
         none = []
         turned(none).append("mark")

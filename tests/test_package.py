@@ -4,7 +4,7 @@ import pathlib
 import re
 import unittest
 
-from signmill import chains, errors, grinding, overlaps, words
+from signmill import chains, errors, grinding, listing, milling, notes, overlaps, words
 
 FOLDER = pathlib.Path(errors.__file__).parent
 
@@ -16,6 +16,11 @@ ARGUMENTS = [
     (chains.walked, ["pairs", "word", "chain"]),
     (chains.turned, ["chain"]),
     (overlaps.overlaps, ["rules"]),
+    (milling.milled, ["pairs", "rounds"]),
+    (milling.asked, ["pairs", "rounds", "one", "other"]),
+    (listing.forms, ["rules", "signs", "most"]),
+    (notes.shown, ["pairs"]),
+    (notes.read, ["lines"]),
 ]
 
 # What the package may call of Python's own; so it reaches no clock, chance or file.

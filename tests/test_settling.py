@@ -1,6 +1,5 @@
 import copy
 import itertools
-import random
 import unittest
 
 from signmill.chains import walked
@@ -8,16 +7,9 @@ from signmill.grinding import steps_of
 from signmill.overlaps import overlaps
 from signmill.settling import clashes, equations_of, rules_of, settled, words_behind
 from signmill.words import before
-from tests.plain import plain_ground, plain_settled, plain_step, short_words
+from tests.plain import plain_ground, plain_settled, plain_step, short_words, some_lists
 
 TWO_LETTERS = short_words("ab", 2)
-
-
-def some_lists(count, pairs, signs, most, seed):
-    # The seed makes the same lists at each run.
-    chosen = random.Random(seed)
-    words = short_words(signs, most)
-    return [[(chosen.choice(words), chosen.choice(words)) for pair in range(pairs)] for number in range(count)]
 
 
 class WordsBehind(unittest.TestCase):
